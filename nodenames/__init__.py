@@ -1,0 +1,1 @@
+"""Names over nodes that meet again."""
