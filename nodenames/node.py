@@ -73,6 +73,10 @@ class Node:
                 lost = lost + 1
         return lost
 
+    def losses_of(self, process):
+        """The name and the count of each claim that the process has lost, in order."""
+        return list(self.losses.get(process, []))
+
     def write_letter(self, receiver):
         return Letter(self.number, receiver, list(self.known), self.count)
 

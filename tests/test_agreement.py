@@ -2,19 +2,11 @@
 
 import unittest
 
-from tests.asking import ask, begin, claim, free, joined, meet, part, take, tell
+from tests.asking import ask, begin, claim, free, joined, meet, numbers_from, part, take, tell
 
 NODES = 3
 PAIRS = [(a, b) for a in range(1, NODES + 1) for b in range(1, NODES + 1) if a != b]
 NAMES = range(3)
-
-
-def numbers_from(seed):
-    """The same numbers each time, so that a failure can be looked at again."""
-    state = seed
-    while True:
-        state = (state * 1103515245 + 12345) % 2147483648
-        yield state // 65536
 
 
 def some_calls(seed, length):

@@ -3,6 +3,7 @@
 import ast
 import builtins
 import pathlib
+import re
 import unittest
 
 PACKAGE = pathlib.Path(__file__).resolve().parent.parent / "nodenames"
@@ -22,6 +23,16 @@ OWN_NAMES = set((
     "OverflowError RuntimeError NotImplementedError StopIteration"
 ).split())
 
+NOWHERE = (
+    "type typing typing_extensions enum Enum IntEnum StrEnum Flag IntFlag Generic Protocol ABC ABCMeta namedtuple "
+    "NamedTuple TypedDict TYPE_CHECKING abstractmethod"
+).split()
+PYTHONS_METHODS = set((
+    "append clear copy count endswith extend find get index insert isalnum isalpha isdigit islower isspace isupper "
+    "items join keys ljust lower lstrip partition pop remove replace reverse rfind rjust rpartition rsplit rstrip "
+    "setdefault split splitlines startswith strip update upper values zfill bit_length"
+).split())
+
 
 def trees():
     return [(path.name, ast.parse(path.read_text(encoding="utf-8"))) for path in FILES]
@@ -29,6 +40,10 @@ def trees():
 
 def nodes_of(kind):
     return [(name, node) for name, tree in trees() for node in ast.walk(tree) if isinstance(node, kind)]
+
+
+def own_methods():
+    return {part.name for _, node in nodes_of(ast.ClassDef) for part in node.body if isinstance(part, ast.FunctionDef)}
 
 
 class Language(unittest.TestCase):
@@ -78,11 +93,19 @@ class Language(unittest.TestCase):
                 self.assertIn(node.id, OWN_NAMES, name)
 
     def test_no_name_is_a_method_and_a_value(self):
-        methods = set()
-        for _, node in nodes_of(ast.ClassDef):
-            methods.update(part.name for part in node.body if isinstance(part, ast.FunctionDef))
         values = {node.attr for _, node in nodes_of(ast.Attribute) if isinstance(node.ctx, ast.Store)}
-        self.assertEqual(methods & values, set())
+        self.assertEqual(own_methods() & values, set())
+
+    def test_methods_that_are_called(self):
+        for name, node in nodes_of(ast.Call):
+            if isinstance(node.func, ast.Attribute):
+                self.assertIn(node.func.attr, own_methods() | PYTHONS_METHODS, (name, node.lineno))
+
+    def test_words_that_stand_nowhere(self):
+        for path in FILES:
+            text = path.read_text(encoding="utf-8")
+            self.assertEqual(set(re.findall(r"\w+", text)) & set(NOWHERE), set(), path.name)
+            self.assertIsNone(re.search("dataclass|overload|contextmanager", text), path.name)
 
 
 if __name__ == "__main__":

@@ -1,4 +1,4 @@
-"""What a node has that no call tells of yet: what was lost, and in which order it reaches others."""
+"""A node by itself: what was lost there, in which order it reaches others, and which claims it knows."""
 
 import unittest
 
